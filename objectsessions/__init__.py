@@ -1,0 +1,1 @@
+"""Sessions of objects over tables."""
