@@ -1,8 +1,9 @@
 """The calls that change what's now. Each gives back its answer."""
 
-from objectsessions.links import all_links, first_refusing, going_with, referring, without
+from objectsessions.changes import AS_LOADED, IS_NEW, standing
+from objectsessions.links import all_links, first_refusing, going_with, without
 from objectsessions.state import NO_COLUMN, NO_OBJECT, refuse_column, refuse_list, refuse_object, refuse_table
-from objectsessions.tables import MOST_ROWS, copy_tables, is_value, with_row, with_value
+from objectsessions.tables import MOST_ROWS, copy_tables, having, is_value, with_row, with_value
 
 TABLE_FULL = -6
 TOO_MANY_MADE = -10
@@ -41,7 +42,7 @@ def make_object(session, table, values):
         if not can_be_set(column, session.now, values[index]):
             return [1, index]
     number = FIRST_NEW + session.made
-    session.now = with_row(session.now, table, number, values)
+    session.change(with_row(session.now, table, number, values))
     session.made += 1
     return [0, number]
 
@@ -55,7 +56,7 @@ def set_value(session, table, number, index, value):
     if not can_be_set(session.schema[table][index], session.now, value):
         return [1]
     row = with_value(session.now[table][number], index, value)
-    session.now = with_row(session.now, table, number, row)
+    session.change(with_row(session.now, table, number, row))
     return [0]
 
 
@@ -68,7 +69,7 @@ def remove_object(session, table, number):
     link = first_refusing(links, going)
     if link is not None:
         return [1, link.table, link.number, link.index]
-    session.now = without(session.now, links, going)
+    session.change(without(session.now, links, going))
     return [0, len(going)]
 
 
@@ -83,6 +84,12 @@ def as_loaded(session, table, number):
     return values
 
 
+def load_again(session, table, number):
+    values = as_loaded(session, table, number)
+    session.change(with_row(session.now, table, number, values))
+    return [0] + values
+
+
 def bring_back(session, table, number):
     refusal = refuse_table(session, table)
     if refusal != 0:
@@ -93,9 +100,19 @@ def bring_back(session, table, number):
         return [1]
     if is_full(session, table):
         return [TABLE_FULL]
-    values = as_loaded(session, table, number)
-    session.now = with_row(session.now, table, number, values)
-    return [0] + values
+    return load_again(session, table, number)
+
+
+def refresh_object(session, table, number):
+    refusal = refuse_object(session, table, number)
+    if refusal != 0:
+        return [refusal]
+    found = standing(session, table, number)
+    if found == IS_NEW:
+        return [1]
+    if found == AS_LOADED:
+        return [2]
+    return load_again(session, table, number)
 
 
 def with_list(tables, other, index, number, dropped, named):
@@ -115,9 +132,9 @@ def make_list(session, table, number, other, index, named):
         return [refusal]
     if not all([holder in session.now[other] for holder in named]):
         return [NOT_IN_OTHER]
-    before = referring(session.now, other, index, number)
+    before = having(session.now, other, index, number)
     dropped = [holder for holder in before if holder not in named]
     if len(dropped) > 0 and not session.schema[other][index].optional:
         return [1, dropped[0]]
-    session.now = with_list(session.now, other, index, number, dropped, named)
+    session.change(with_list(session.now, other, index, number, dropped, named))
     return [0]

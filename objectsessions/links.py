@@ -33,12 +33,6 @@ def all_links(schema, tables):
     return links
 
 
-def referring(tables, other, index, number):
-    """The numbers of the other table's objects that have this number in this column, rising."""
-    rows = tables[other]
-    return [holder for holder in sorted(rows) if rows[holder][index] == number]
-
-
 def going_with(links, first):
     """The objects, as keys, that go if the first one does: itself, and those that cascades take along."""
     going = {first: True}

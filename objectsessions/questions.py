@@ -1,27 +1,19 @@
 """The calls that only tell what's now. Each gives back its answer."""
 
-from objectsessions.links import referring
-from objectsessions.state import refuse_list, refuse_object
+from objectsessions.changes import all_changes, standing
+from objectsessions.state import refuse_column, refuse_list, refuse_object
+from objectsessions.tables import having
 
-AS_LOADED = 0
-IS_NEW = 1
-IS_CHANGED = 2
+
+def tell_set(numbers):
+    return [0, len(numbers)] + numbers
 
 
 def tell_list(session, table, number, other, index):
     refusal = refuse_list(session, table, number, other, index)
     if refusal != 0:
         return [refusal]
-    numbers = referring(session.now, other, index, number)
-    return [0, len(numbers)] + numbers
-
-
-def standing(session, table, number):
-    """How an object stands to what was loaded."""
-    if number not in session.loaded[table]:
-        return IS_NEW
-    same = session.now[table][number] == session.loaded[table][number]
-    return AS_LOADED if same else IS_CHANGED
+    return tell_set(having(session.now, other, index, number))
 
 
 def tell_row(session, table, number):
@@ -29,3 +21,28 @@ def tell_row(session, table, number):
     if refusal != 0:
         return [refusal]
     return [0, standing(session, table, number)] + list(session.now[table][number])
+
+
+def tell_found(session, table, index, value):
+    refusal = refuse_column(session, table, index)
+    if refusal != 0:
+        return [refusal]
+    return tell_set(having(session.now, table, index, value))
+
+
+def tell_changes(session):
+    changes = all_changes(session)
+    told = [0, len(changes)]
+    for change in changes:
+        told.extend(change)
+    return told
+
+
+def tell_tables(session):
+    told = [0]
+    for rows in session.now:
+        told.append(len(rows))
+        for number in sorted(rows):
+            told.append(number)
+            told.extend(rows[number])
+    return told

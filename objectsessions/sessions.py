@@ -1,18 +1,9 @@
 """Answers a line of calls on one object, which is new at the line's beginning."""
 
-from objectsessions.deeds import bring_back, make_list, make_object, remove_object, set_value
-from objectsessions.questions import tell_list, tell_row
-from objectsessions.schemas import read_schema
+from objectsessions.deeds import bring_back, make_list, make_object, refresh_object, remove_object, set_value
+from objectsessions.holdings import fill_tables, flush_tables, load_text, redo_deed, roll_back, undo_deed
+from objectsessions.questions import tell_changes, tell_found, tell_list, tell_row, tell_tables
 from objectsessions.state import Session
-from objectsessions.tables import first_broken, read_rows
-from objectsessions.tokens import TextFault
-
-NO_BYTE = -1
-TEXT_TOO_LONG = -2
-NOT_ROWS = -4
-
-MOST_BYTE = 255
-MOST_TEXT = 4096
 
 # For each call: its word, how many whole numbers it has, and if a list stands behind them.
 CALLS = {
@@ -25,39 +16,21 @@ CALLS = {
     6: ("list", 4, False),
     7: ("relist", 4, True),
     8: ("row", 2, False),
+    9: ("find", 3, False),
+    10: ("changed", 0, False),
+    11: ("refresh", 2, False),
+    12: ("undo", 0, False),
+    13: ("redo", 0, False),
+    14: ("flush", 0, False),
+    15: ("rollback", 0, False),
+    16: ("tables", 0, False),
 }
 
-
-def load_text(session, text):
-    if not all([0 <= number <= MOST_BYTE for number in text]):
-        return [NO_BYTE]
-    if len(text) > MOST_TEXT:
-        return [TEXT_TOO_LONG]
-    try:
-        schema = read_schema(text)
-    except TextFault as fault:
-        return [1, fault.kind, fault.place]
-    session.hold(schema, [{} for columns in schema])
-    return [0, len(schema), sum([len(columns) for columns in schema])]
+DEEDS = ("new", "set", "remove", "back", "relist", "refresh")
+QUESTIONS = ("list", "row", "find", "changed", "tables")
 
 
-def fill_tables(session, numbers):
-    tables = read_rows(session.schema, numbers)
-    if tables is None:
-        return [NOT_ROWS]
-    broken = first_broken(session.schema, tables)
-    if len(broken) > 0:
-        return [1] + broken
-    session.hold(session.schema, tables)
-    return [0]
-
-
-def answer_call(session, word, numbers, row):
-    """The answer to a call with these whole numbers, and this list, if it has one."""
-    if word == "load":
-        return load_text(session, row)
-    if word == "fill":
-        return fill_tables(session, row)
+def answer_deed(session, word, numbers, row):
     if word == "new":
         return make_object(session, numbers[0], row)
     if word == "set":
@@ -66,11 +39,44 @@ def answer_call(session, word, numbers, row):
         return remove_object(session, numbers[0], numbers[1])
     if word == "back":
         return bring_back(session, numbers[0], numbers[1])
-    if word == "list":
-        return tell_list(session, numbers[0], numbers[1], numbers[2], numbers[3])
     if word == "relist":
         return make_list(session, numbers[0], numbers[1], numbers[2], numbers[3], row)
-    return tell_row(session, numbers[0], numbers[1])
+    return refresh_object(session, numbers[0], numbers[1])
+
+
+def answer_question(session, word, numbers):
+    if word == "list":
+        return tell_list(session, numbers[0], numbers[1], numbers[2], numbers[3])
+    if word == "row":
+        return tell_row(session, numbers[0], numbers[1])
+    if word == "find":
+        return tell_found(session, numbers[0], numbers[1], numbers[2])
+    if word == "changed":
+        return tell_changes(session)
+    return tell_tables(session)
+
+
+def answer_holding(session, word, row):
+    if word == "load":
+        return load_text(session, row)
+    if word == "fill":
+        return fill_tables(session, row)
+    if word == "undo":
+        return undo_deed(session)
+    if word == "redo":
+        return redo_deed(session)
+    if word == "flush":
+        return flush_tables(session)
+    return roll_back(session)
+
+
+def answer_call(session, word, numbers, row):
+    """The answer to a call with these whole numbers, and this list, if it has one."""
+    if word in DEEDS:
+        return answer_deed(session, word, numbers, row)
+    if word in QUESTIONS:
+        return answer_question(session, word, numbers)
+    return answer_holding(session, word, row)
 
 
 def answers(calls):

@@ -5,15 +5,20 @@ NO_OBJECT = -5
 NO_COLUMN = -7
 NOT_TO_TABLE = -8
 
+MOST_KEPT = 10
+
 
 class Session:
-    """A schema, its tables as they were loaded and as they are now, and how many new objects were made."""
+    """A schema, its tables as they were loaded and as they are now, how many new objects were made,
+    and the moments to which undo and redo lead, the next one last."""
 
     def __init__(self):
         self.schema = []
         self.loaded = []
         self.now = []
         self.made = 0
+        self.past = []
+        self.undone = []
 
     def hold(self, schema, tables):
         """Begins anew with these tables, loaded and now."""
@@ -21,6 +26,23 @@ class Session:
         self.loaded = tables
         self.now = tables
         self.made = 0
+        self.past = []
+        self.undone = []
+
+    def present(self):
+        """This moment. It tells how many were made too: the number of one whose making is undone is used again."""
+        return (self.now, self.made)
+
+    def change(self, tables):
+        """A deed, be what's now changed by it or not: it's one to be undone, and nothing is done again."""
+        moments = self.past + [self.present()]
+        self.past = moments[-MOST_KEPT:]
+        self.undone = []
+        self.now = tables
+
+    def go_to(self, moment):
+        self.now = moment[0]
+        self.made = moment[1]
 
 
 def refuse_table(session, table):

@@ -89,6 +89,12 @@ def first_broken(schema, tables):
     return []
 
 
+def having(tables, table, index, value):
+    """The numbers of the table's rows that have this value in this column, rising."""
+    rows = tables[table]
+    return [number for number in sorted(rows) if rows[number][index] == value]
+
+
 def copy_tables(tables):
     return [dict(rows) for rows in tables]
 

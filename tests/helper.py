@@ -6,6 +6,13 @@ from objectsessions.sessions import answers
 
 HUGE = 10 ** 18
 
+CHANGED = [10]
+UNDO = [12]
+REDO = [13]
+FLUSH = [14]
+ROLLBACK = [15]
+TABLES = [16]
+
 
 def load(text):
     numbers = list(text.encode("latin-1")) if isinstance(text, str) else list(text)
@@ -42,6 +49,14 @@ def relist(table, number, other, column, *objects):
 
 def row(table, number):
     return [8, table, number]
+
+
+def find(table, column, value):
+    return [9, table, column, value]
+
+
+def refresh(table, number):
+    return [11, table, number]
 
 
 def line(*calls):

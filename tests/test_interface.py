@@ -4,10 +4,11 @@ import random
 import unittest
 
 from objectsessions.sessions import answers
-from tests.helper import LineTest, back, cut, fill, line, list_, load, new, relist, remove, replies, row, set_
+from tests.helper import (CHANGED, FLUSH, REDO, ROLLBACK, TABLES, UNDO, LineTest, back, cut, fill, find, line, list_, load, new,
+                          refresh, relist, remove, replies, row, set_)
 
 EXAMPLE = "table p { age: number from 0 to 9; boss: ref p none clear; } table q { of: ref p cascade unique; }"
-OPENING = (
+STEPS = (
     (load(EXAMPLE), [0, 2, 3]),
     (fill(2, 1, 5, 0, 2, 5, 1, 1, 7, 2), [0]),
     (new(0, 3, 2), [0, 100]),
@@ -15,10 +16,19 @@ OPENING = (
     (list_(0, 2, 0, 1), [0, 1, 100]),
     (relist(0, 100, 0, 1, 1, 2), [0]),
     (row(0, 2), [0, 2, 5, 100]),
+    (CHANGED, [0, 4, 1, 0, 1, 1, 1, 1, 0, 2, 1, 1, 0, 0, 100, 0, 1, 101]),
+    (remove(0, 1), [0, 1]),
+    (UNDO, [0]),
+    (set_(0, 100, 0, 30), [0]),
+    (FLUSH, [1, 2, 0, 3, 0]),
+    (UNDO, [0]),
+    (FLUSH, [0, 4, 2, 0, 100, 3, 1, 101, 1]),
+    (TABLES, [0, 3, 1, 5, 3, 2, 5, 3, 3, 3, 2, 2, 1, 3, 7, 2]),
 )
-ALL_CALLS = [call for call, answer in OPENING] + [
+ALL_CALLS = [call for call, answer in STEPS] + [
     set_(0, 1, 0, 8), set_(0, 1, 0, 2000000), set_(0, 1, 7, 0), remove(0, 2), back(0, 2), back(1, 7), fill(1), load("table p {"),
-    row(1, 7), relist(0, 1, 1, 0), remove(5, 5)]
+    row(1, 7), relist(0, 1, 1, 0), remove(5, 5), find(0, 0, 5), find(0, 0, 10 ** 18), find(0, 7, 0), refresh(0, 1), refresh(0, 1), refresh(0, 77),
+    REDO, UNDO, REDO, CHANGED, new(0, 9, 0), FLUSH, set_(0, 1, 0, 7), ROLLBACK, new(0, 9, 0), TABLES]
 
 
 class Frozen(list):
@@ -33,11 +43,12 @@ class Frozen(list):
 
 class Example(LineTest):
 
-    def test_up_to_the_removal(self):
-        self.check(*OPENING, (remove(0, 1), [0, 1]), (row(0, 1), [-5]), (row(0, 2), [0, 2, 5, 100]))
+    def test_it_is_answered_as_told(self):
+        self.check(*STEPS)
 
-    def test_with_a_value_out_of_range(self):
-        self.check(*OPENING, (set_(0, 100, 0, 30), [0]), (row(0, 100), [0, 1, 30, 2]))
+    def test_each_beginning_of_it_too(self):
+        for many in range(1, len(STEPS)):
+            self.check(*STEPS[:many])
 
 
 class Interface(unittest.TestCase):
@@ -51,6 +62,16 @@ class Interface(unittest.TestCase):
         calls = [0, len(text), *text, 1, 5, 2, 4, 0, 6, 4, 2, 0, 1, 6, 3, 0, 100, 0, 4, 6, 0, 4, 0, 0, 7, 0, 4, 0, 0, 1, 6,
                  8, 0, 100, 4, 0, 6, 5, 0, 6]
         self.assertEqual(cut(answers(calls)), [[0, 1, 1], [0], [0, 100], [0], [0, 2, 6, 100], [0], [0, 1, 0], [0, 1], [0, 4]])
+        self.assertEqual(cut(answers(calls + [9, 0, 0, 0, 10, 3, 0, 6, 0, 0, 11, 0, 6, 12, 13, 14, 15, 16])),
+                         cut(answers(calls)) + [[0, 2, 4, 100], [0, 1, 0, 0, 100], [0], [0, 4], [0], [0], [0, 1, 1, 0, 100, 1], [0, 0],
+                                                [0, 3, 1, 0, 4, 0, 6, 4]])
+
+    def test_each_call_without_tables(self):
+        self.assertEqual(answers([9, 0, 0, 0, 10, 11, 0, 1, 12, 13, 14, 15, 16]),
+                         [1, -3, 2, 0, 0, 1, -3, 1, -9, 1, -9, 3, 0, 0, 0, 2, 0, 0, 1, 0])
+        for call in range(10, 17):
+            if call != 11:
+                self.assertEqual(replies([call]), [{10: [0, 0], 12: [-9], 13: [-9], 14: [0, 0, 0], 15: [0, 0], 16: [0]}[call]])
 
     def test_lists_may_be_empty(self):
         self.assertEqual(answers([0, 0, 1, 0, 2, 0, 0]), [3, 0, 0, 0, 1, 0, 1, -3])
@@ -80,6 +101,9 @@ class Interface(unittest.TestCase):
         answers(line(*ALL_CALLS))
         self.assertEqual(replies(row(0, 1), fill(), new(0, 3, 2)), [[-3], [0], [-3]])
         self.assertEqual(replies(load(EXAMPLE), row(0, 1), new(0, 3, 0)), [[0, 2, 3], [-5], [0, 100]])
+        answers(line(load("table p {}"), new(0), new(0), UNDO))
+        self.assertEqual(replies(UNDO, REDO, CHANGED, TABLES, ROLLBACK, FLUSH), [[-9], [-9], [0, 0], [0], [0, 0], [0, 0, 0]])
+        self.assertEqual(replies(load("table p {}"), REDO, UNDO, new(0), TABLES), [[0, 1, 0], [-9], [-9], [0, 100], [0, 1, 100]])
 
     def test_100_calls(self):
         told = replies(load("table p {}"), *[row(0, 1)] * 99)
